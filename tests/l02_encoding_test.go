@@ -500,30 +500,16 @@ func fill[E any](result []E, mark E) {
 	}
 }
 
-func TestEncodingChangesNoBytes(t *testing.T) {
-	calls := []struct {
-		what    string
-		content []byte
-		call    func(b []byte) []byte
-	}{
-		{"AppendUvarint of 300", []byte{1, 2}, func(b []byte) []byte { return impl.AppendUvarint(b, 300) }},
-		{"AppendUvarint of 0 to nothing", nil, func(b []byte) []byte { return impl.AppendUvarint(b, 0) }},
-		{"AppendUvarint of -1", []byte{1, 2}, func(b []byte) []byte { return impl.AppendUvarint(b, -1) }},
-		{"AppendUvarint of too much", []byte{1, 2}, func(b []byte) []byte { return impl.AppendUvarint(b, impl.MaxValue+1) }},
-		{"AppendBytes", []byte{1, 2}, func(b []byte) []byte { return impl.AppendBytes(b, []byte{7, 8}) }},
-		{"AppendBytes of nothing", []byte{1, 2}, func(b []byte) []byte { return impl.AppendBytes(b, nil) }},
-		{"AppendBytes of itself", []byte{1, 2}, func(b []byte) []byte { return impl.AppendBytes(b, b) }},
-		{"AppendBytes as data", []byte{1, 2}, func(b []byte) []byte { return impl.AppendBytes([]byte{5}, b) }},
-		{"AppendBytes as data to nothing", []byte{1, 2}, func(b []byte) []byte { return impl.AppendBytes(nil, b) }},
-		{"ReadUvarint", []byte{172, 2}, func(b []byte) []byte { impl.ReadUvarint(b, 0); return nil }},
-		{"ReadBytes", []byte{2, 7, 8, 9}, func(b []byte) []byte { d, _, _ := impl.ReadBytes(b, 0, 2); return d }},
-		{"ReadBytes to the end", []byte{2, 7, 8}, func(b []byte) []byte { d, _, _ := impl.ReadBytes(b, 0, 2); return d }},
-		{"ReadBytes of nothing", []byte{0, 7, 8}, func(b []byte) []byte { d, _, _ := impl.ReadBytes(b, 0, 2); return d }},
-		{"ReadBytes too long", []byte{2, 7, 8}, func(b []byte) []byte { d, _, _ := impl.ReadBytes(b, 0, 1); return d }},
-		{"DecodeInts", []byte{5, 172, 2}, func(b []byte) []byte { impl.DecodeInts(b, 0, 2); return nil }},
-		{"DecodeInts too many", []byte{5, 172, 2}, func(b []byte) []byte { impl.DecodeInts(b, 0, 3); return nil }},
-		{"EqualBytes", []byte{5, 172, 2}, func(b []byte) []byte { impl.EqualBytes(b, b[1:]); return nil }},
-	}
+// bytesCall is a call with a byte string as its argument, and what it returns of bytes.
+type bytesCall struct {
+	what    string
+	content []byte
+	call    func(b []byte) []byte
+}
+
+// checkBytesCalls makes each call twice: neither its argument nor the first result may change.
+func checkBytesCalls(t *testing.T, calls []bytesCall) {
+	t.Helper()
 	for _, c := range calls {
 		g := guard(c.content, 77)
 		first := c.call(g.slice)
@@ -543,6 +529,28 @@ func TestEncodingChangesNoBytes(t *testing.T) {
 			t.Errorf("%s returns the same memory twice", c.what)
 		}
 	}
+}
+
+func TestEncodingChangesNoBytes(t *testing.T) {
+	checkBytesCalls(t, []bytesCall{
+		{"AppendUvarint of 300", []byte{1, 2}, func(b []byte) []byte { return impl.AppendUvarint(b, 300) }},
+		{"AppendUvarint of 0 to nothing", nil, func(b []byte) []byte { return impl.AppendUvarint(b, 0) }},
+		{"AppendUvarint of -1", []byte{1, 2}, func(b []byte) []byte { return impl.AppendUvarint(b, -1) }},
+		{"AppendUvarint of too much", []byte{1, 2}, func(b []byte) []byte { return impl.AppendUvarint(b, impl.MaxValue+1) }},
+		{"AppendBytes", []byte{1, 2}, func(b []byte) []byte { return impl.AppendBytes(b, []byte{7, 8}) }},
+		{"AppendBytes of nothing", []byte{1, 2}, func(b []byte) []byte { return impl.AppendBytes(b, nil) }},
+		{"AppendBytes of itself", []byte{1, 2}, func(b []byte) []byte { return impl.AppendBytes(b, b) }},
+		{"AppendBytes as data", []byte{1, 2}, func(b []byte) []byte { return impl.AppendBytes([]byte{5}, b) }},
+		{"AppendBytes as data to nothing", []byte{1, 2}, func(b []byte) []byte { return impl.AppendBytes(nil, b) }},
+		{"ReadUvarint", []byte{172, 2}, func(b []byte) []byte { impl.ReadUvarint(b, 0); return nil }},
+		{"ReadBytes", []byte{2, 7, 8, 9}, func(b []byte) []byte { d, _, _ := impl.ReadBytes(b, 0, 2); return d }},
+		{"ReadBytes to the end", []byte{2, 7, 8}, func(b []byte) []byte { d, _, _ := impl.ReadBytes(b, 0, 2); return d }},
+		{"ReadBytes of nothing", []byte{0, 7, 8}, func(b []byte) []byte { d, _, _ := impl.ReadBytes(b, 0, 2); return d }},
+		{"ReadBytes too long", []byte{2, 7, 8}, func(b []byte) []byte { d, _, _ := impl.ReadBytes(b, 0, 1); return d }},
+		{"DecodeInts", []byte{5, 172, 2}, func(b []byte) []byte { impl.DecodeInts(b, 0, 2); return nil }},
+		{"DecodeInts too many", []byte{5, 172, 2}, func(b []byte) []byte { impl.DecodeInts(b, 0, 3); return nil }},
+		{"EqualBytes", []byte{5, 172, 2}, func(b []byte) []byte { impl.EqualBytes(b, b[1:]); return nil }},
+	})
 }
 
 func TestEncodingChangesNoInts(t *testing.T) {
