@@ -500,32 +500,39 @@ func fill[E any](result []E, mark E) {
 	}
 }
 
-// bytesCall is a call with a byte string as its argument, and what it returns of bytes.
-type bytesCall struct {
+// listCall is a call with a list as its argument, and what it returns of a list.
+type listCall[E comparable] struct {
 	what    string
-	content []byte
-	call    func(b []byte) []byte
+	content []E
+	call    func(l []E) []E
 }
 
-// checkBytesCalls makes each call twice: neither its argument nor the first result may change.
+type bytesCall = listCall[byte]
+
 func checkBytesCalls(t *testing.T, calls []bytesCall) {
 	t.Helper()
+	checkListCalls(t, 77, 99, calls)
+}
+
+// checkListCalls makes each call twice: neither its argument, which lies in the midst of around, nor the first result may change when over is written into the second one.
+func checkListCalls[E comparable](t *testing.T, around E, over E, calls []listCall[E]) {
+	t.Helper()
 	for _, c := range calls {
-		g := guard(c.content, 77)
+		g := guard(c.content, around)
 		first := c.call(g.slice)
 		kept := slices.Clone(first)
 		second := c.call(g.slice)
 		if g.changed() {
 			t.Errorf("%s changes its argument", c.what)
 		}
-		if !bytes.Equal(first, second) {
+		if !slices.Equal(first, second) {
 			t.Errorf("%s returns %v and then %v", c.what, first, second)
 		}
-		fill(second, 99)
+		fill(second, over)
 		if g.changed() {
 			t.Errorf("%s returns memory of its argument", c.what)
 		}
-		if !bytes.Equal(first, kept) {
+		if !slices.Equal(first, kept) {
 			t.Errorf("%s returns the same memory twice", c.what)
 		}
 	}
