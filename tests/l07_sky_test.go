@@ -85,7 +85,7 @@ func manyZones(n int) []impl.Zone {
 	return slices.Repeat([]impl.Zone{zone(0, arc(5, 5))}, n)
 }
 
-// wantNeighbors walks round the planes of a sky; of planes beyond, it knows only that they differ by 1.
+// wantNeighbors walks round the planes of a sky, and round one plane more than a valid sky has; of planes beyond, it knows only that they differ by 1.
 func wantNeighbors(planes int, p int, q int) bool {
 	if p < 0 || q < 0 {
 		return false
@@ -95,6 +95,7 @@ func wantNeighbors(planes int, p int, q int) bool {
 		2: {{0, 1}},
 		3: {{0, 1}, {1, 2}, {2, 0}},
 		4: {{0, 1}, {1, 2}, {2, 3}, {3, 0}},
+		5: {{0, 1}, {1, 2}, {2, 3}, {3, 4}, {4, 0}},
 	}
 	by := new(big.Int).Sub(big.NewInt(int64(p)), big.NewInt(int64(q)))
 	return by.CmpAbs(big.NewInt(1)) == 0 || slices.Contains(ring[planes], [2]int{p, q}) || slices.Contains(ring[planes], [2]int{q, p})
@@ -419,8 +420,8 @@ func TestLimitOfTwoPlanes(t *testing.T) {
 		{4, 0, 1, near}, {4, 1, 2, near}, {4, 2, 3, near}, {4, 0, 3, near}, {4, 0, 2, apart}, {4, 1, 3, apart},
 		{3, 0, 1, near}, {3, 1, 2, near}, {3, 0, 2, near}, {3, 0, 3, apart}, {3, 2, 3, near}, {3, 1, 3, apart},
 		{2, 0, 1, near}, {2, 0, 2, apart}, {2, 1, 2, near}, {2, 0, 3, apart}, {1, 0, 1, near}, {1, 1, 2, near}, {1, 0, 2, apart}, {1, 0, 3, apart},
-		// A sky with more than MaxPlanes planes is none, and its last plane is no neighbor of its first one.
-		{5, 0, 4, apart}, {6, 0, 5, apart}, {5, 3, 4, near}, {5, 0, 1, near}, {5, 0, 3, apart}, {100, 0, 99, apart}, {math.MaxInt, 0, math.MaxInt - 1, apart}, {math.MaxInt, 0, math.MaxInt, apart}, {math.MaxInt, 0, 1, near},
+		// Planes - 1 is from 1 to MaxPlanes: with MaxPlanes + 1 planes, the last one is a neighbor of the first one too, and with more it is not.
+		{5, 0, 4, near}, {5, 3, 4, near}, {5, 0, 1, near}, {5, 0, 2, apart}, {5, 0, 3, apart}, {5, 1, 4, apart}, {5, 0, 5, apart}, {6, 0, 5, apart}, {6, 0, 4, apart}, {6, 0, 1, near}, {6, 4, 5, near}, {7, 0, 6, apart}, {100, 0, 99, apart}, {math.MaxInt, 0, math.MaxInt - 1, apart}, {math.MaxInt, 0, math.MaxInt, apart}, {math.MaxInt, 0, 1, near},
 		{0, 0, 1, near}, {0, 0, -1, apart}, {0, 0, 2, apart}, {0, 0, 3, apart}, {-1, 0, -2, apart}, {-1, 0, 1, near}, {-4, 0, 3, apart}, {-4, 0, -5, apart},
 		// One less than math.MinInt is math.MaxInt, but no sky has as few planes.
 		{math.MinInt, 0, math.MaxInt, apart}, {math.MinInt, 0, math.MaxInt - 1, apart}, {math.MinInt + 1, 0, math.MinInt, apart}, {math.MinInt, 0, 1, near},
