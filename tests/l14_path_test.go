@@ -339,17 +339,26 @@ func pairsOf(nodes int) []impl.Link {
 	return l
 }
 
+// graphsOf has each choice among the links of all pairs of nodes.
+func graphsOf(nodes int) [][]impl.Link {
+	pairs := pairsOf(nodes)
+	graphs := [][]impl.Link{}
+	for chosen := range 1 << len(pairs) {
+		l := []impl.Link{}
+		for i, x := range pairs {
+			if chosen>>i&1 == 1 {
+				l = append(l, x)
+			}
+		}
+		graphs = append(graphs, l)
+	}
+	return graphs
+}
+
 // TestPathsOfAllSmallGraphs tries all paths of all graphs of few nodes.
 func TestPathsOfAllSmallGraphs(t *testing.T) {
 	for nodes := 1; nodes <= 5; nodes++ {
-		pairs := pairsOf(nodes)
-		for chosen := range 1 << len(pairs) {
-			l := []impl.Link{}
-			for i, x := range pairs {
-				if chosen>>i&1 == 1 {
-					l = append(l, x)
-				}
-			}
+		for _, l := range graphsOf(nodes) {
 			for first := range nodes + 1 {
 				for dst := range nodes {
 					dist := impl.DistancesTo(l, nodes, first, dst)
